@@ -1,12 +1,17 @@
-// Package calls has what the packages of functions share: functions by their names, and arguments.
+// Package calls has what the packages of functions share: functions by their names, arguments, and counts.
 package calls
 
 import (
 	"abacist/api"
+	"abacist/coerce"
+	"abacist/round"
 	"abacist/value"
 )
 
-// Function is a function's name, and how many arguments it has, at least and at most.
+// mostCount is the greatest amount of a count.
+const mostCount = 1000000
+
+// Function is a function's name, and how many values, or arguments, it has, at least and at most.
 type Function struct {
 	Name        string
 	Least, Most int
@@ -23,10 +28,27 @@ func Names(functions []Function) []string {
 
 // Fault is FaultName, if no function has that name; FaultValue, if it has fewer or more arguments, or one of them can not be; else 0.
 func Fault(functions []Function, name string, l []api.Arg) int {
-	for _, f := range functions {
-		if f.Name == name {
-			return faultOf(f, l)
+	if fault := Many(functions, name, len(l)); fault != 0 {
+		return fault
+	}
+	for _, a := range l {
+		if !Right(a) {
+			return api.FaultValue
 		}
+	}
+	return 0
+}
+
+// Many is FaultName, if no function has that name; FaultValue, if n values, or arguments, are too few or too many for it; else 0.
+func Many(functions []Function, name string, n int) int {
+	for _, f := range functions {
+		switch {
+		case f.Name != name:
+			continue
+		case n < f.Least, n > f.Most:
+			return api.FaultValue
+		}
+		return 0
 	}
 	return api.FaultName
 }
@@ -57,15 +79,24 @@ func One(a api.Arg) (api.Value, bool) {
 	return a.Vals[0], true
 }
 
-// faultOf is FaultValue, if a function has fewer or more arguments, or one of them can not be; else 0.
-func faultOf(f Function, l []api.Arg) int {
-	if len(l) < f.Least || len(l) > f.Most {
-		return api.FaultValue
+// Value is the one value of an argument that can be; FaultValue in place of more.
+func Value(a api.Arg) api.Value {
+	v, ok := One(a)
+	if !ok {
+		return value.Fault(api.FaultValue)
 	}
-	for _, a := range l {
-		if !Right(a) {
-			return api.FaultValue
-		}
+	return v
+}
+
+// Count is the whole part of what v is as a number; or a fault: v's own, or FaultValue of a number that is no count.
+func Count(v api.Value) (n, fault int) {
+	r, fault := coerce.Num(v)
+	if fault != 0 {
+		return 0, fault
 	}
-	return 0
+	whole, ok := round.Small(round.Trunc(r))
+	if !ok || whole < -mostCount || whole > mostCount {
+		return 0, api.FaultValue
+	}
+	return int(whole), 0
 }

@@ -2,6 +2,7 @@ package calls_test
 
 import (
 	"math"
+	"math/big"
 	"slices"
 	"strings"
 	"testing"
@@ -119,6 +120,64 @@ func TestOne(t *testing.T) {
 		}
 		if got, ok := calls.One(a); ok || got != blank {
 			t.Errorf("One of %d: %#v %t", many, got, ok)
+		}
+	}
+}
+
+// Many tells what Fault tells of the name and the number alone.
+func TestMany(t *testing.T) {
+	for name, ends := range map[string][2]int{"A": {0, 0}, "B": {1, 2}, "C": {3, 20}, "D": {-1, -1}} {
+		for n := -1; n < 25; n++ {
+			want := 0
+			switch {
+			case ends[1] < 0:
+				want = api.FaultName
+			case n < ends[0] || n > ends[1]:
+				want = api.FaultValue
+			}
+			if got := calls.Many(some, name, n); got != want {
+				t.Errorf("%q of %d: %d", name, n, got)
+			}
+		}
+	}
+}
+
+// Value is the value of an argument with one, also a fault; FaultValue of more.
+func TestValue(t *testing.T) {
+	for _, v := range []api.Value{blank, {Kind: api.Text, Text: "a"}, {Kind: api.Truth}, {Kind: api.Fault, Fault: 6}} {
+		for _, area := range []bool{true, false} {
+			if got := calls.Value(api.Arg{Vals: []api.Value{v}, Cols: 1, Area: area}); got != v {
+				t.Errorf("Value: %#v, want %#v", got, v)
+			}
+		}
+	}
+	for _, many := range []int{2, 3, 200} {
+		if got := calls.Value(of(many, 1, true)); got != (api.Value{Kind: api.Fault, Fault: api.FaultValue}) {
+			t.Errorf("Value of %d: %#v", many, got)
+		}
+	}
+}
+
+// number is a by b as a value.
+func number(a, b int64) api.Value {
+	x := big.NewRat(a, b)
+	return api.Value{Kind: api.Number, Num: api.Rat{Neg: x.Sign() < 0, Num: string(x.Num().Bytes()), Den: string(x.Denom().Bytes())}}
+}
+
+// Count is the whole part of a number from -1000000 to 1000000; of others a fault.
+func TestCount(t *testing.T) {
+	yes, letters, half := api.Value{Kind: api.Truth, Truth: true}, api.Value{Kind: api.Text, Text: "a"}, api.Value{Kind: api.Text, Text: "-7/2"}
+	for _, c := range []struct {
+		v        api.Value
+		n, fault int
+	}{
+		{number(0, 1), 0, 0}, {number(7, 1), 7, 0}, {number(-7, 1), -7, 0}, {number(1, 2), 0, 0}, {number(-1, 2), 0, 0}, {number(19, 10), 1, 0}, {number(-19, 10), -1, 0}, {blank, 0, 0}, {yes, 1, 0}, {half, -3, 0},
+		{number(1000000, 1), 1000000, 0}, {number(2000001, 2), 1000000, 0}, {number(1000001, 1), 0, 2}, {number(-1000000, 1), -1000000, 0}, {number(-2000001, 2), -1000000, 0}, {number(-1000001, 1), 0, 2},
+		{number(1<<32, 1), 0, 2}, {number(1<<32+1, 1), 0, 2}, {number(math.MaxInt64, 1), 0, 2}, {number(math.MinInt64, 1), 0, 2}, {api.Value{Kind: api.Number, Num: api.Rat{Num: "\x01\x00\x00\x00\x00\x00\x00\x00\x01", Den: "\x01"}}, 0, 2},
+		{letters, 0, 2}, {api.Value{Kind: 9}, 0, 2}, {api.Value{Kind: api.Fault, Fault: 1}, 0, 1}, {api.Value{Kind: api.Fault, Fault: 7}, 0, 7},
+	} {
+		if n, fault := calls.Count(c.v); n != c.n || fault != c.fault {
+			t.Errorf("Count of %#v: %d %d, want %d %d", c.v, n, fault, c.n, c.fault)
 		}
 	}
 }

@@ -142,13 +142,7 @@ func variance(l []api.Rat, n int) (api.Rat, api.Errno) {
 }
 
 // one is an argument's one value as a number; FaultValue, if it has more.
-func one(a api.Arg) (api.Rat, int) {
-	v, ok := calls.One(a)
-	if !ok {
-		return api.Rat{}, api.FaultValue
-	}
-	return coerce.Num(v)
-}
+func one(a api.Arg) (api.Rat, int) { return coerce.Num(calls.Value(a)) }
 
 // placed is the number of list that is so many from its upper end, of LARGE, or from its lower one, of SMALL.
 func placed(name string, list, place api.Arg) api.Value {
