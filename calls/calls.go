@@ -19,7 +19,7 @@ type Function struct {
 
 // Names are the functions' names, in their order.
 func Names(functions []Function) []string {
-	var l []string
+	l := make([]string, 0, len(functions))
 	for _, f := range functions {
 		l = append(l, f.Name)
 	}
